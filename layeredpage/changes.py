@@ -1,4 +1,4 @@
-"""What fill, bright and soft make of a layer's cells. Each answers new cells, by what all of them were."""
+"""What the commands make of a layer's cells. Each answers new cells, by what all of them were."""
 
 from layeredpage.pictures import nearest
 from layeredpage.regions import around
@@ -35,3 +35,27 @@ def softened(cells, chosen, width, height):
     for cell in range(len(cells)):
         changed.append(mixed([cells[other] for other in around(cell, width, height)]))
     return only_chosen(chosen, cells, changed)
+
+
+def shifted(cells, chosen, width, height, x, y):
+    changed = []
+    for cell in range(len(cells)):
+        column = (cell % width - x) % width
+        row = (cell // width - y) % height
+        changed.append(cells[row * width + column])
+    return only_chosen(chosen, cells, changed)
+
+
+def taken_out(cells, chosen, width):
+    # Each piece keeps its column and row on the page, as pasting counts from these.
+    return [(cell % width, cell // width, cells[cell]) for cell in range(len(cells)) if chosen[cell] == 1]
+
+
+def pasted(cells, width, height, pieces, x, y):
+    changed = list(cells)
+    for piece in pieces:
+        column = x + piece[0]
+        row = y + piece[1]
+        if column < width and row < height:
+            changed[row * width + column] = piece[2]
+    return changed

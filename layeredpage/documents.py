@@ -3,18 +3,21 @@
 Each call gives back the list of the numbers it answers; a refusal is alone in it.
 """
 
-from layeredpage.changes import brightened, filled, softened
+from layeredpage.changes import brightened, filled, pasted, shifted, softened, taken_out
 from layeredpage.pages import (
     Layer,
+    dot_numbers,
+    layer_numbers,
     new_document,
     with_chosen,
     with_layers,
+    with_lowest_pressed,
     with_new_layer,
     with_worked_cells,
     with_worked_layer,
     worked_layer,
 )
-from layeredpage.pictures import picture_tones
+from layeredpage.pictures import covered, picture_tones
 from layeredpage.regions import box_region, chosen_by, like_region
 from layeredpage.steps import Editor
 
@@ -22,6 +25,7 @@ NO_SUCH_PAGE = -1
 NO_SUCH_CELL = -1
 NO_SUCH_LAYER = -2
 NO_SUCH_SETTING = -3
+NOTHING_THERE = -4
 NO_MORE_LAYERS = -5
 
 MOST_SIDE = 6
@@ -32,7 +36,7 @@ MOST_WAY = 3
 MOST_HOW = 3
 
 # How many numbers stand behind each call's own number.
-ARGUMENTS = (4, 0, 0, 1, 0, 3, 5, 4, 0, 2, 2, 0)
+ARGUMENTS = (4, 0, 0, 1, 0, 3, 5, 4, 0, 2, 2, 0, 2, 0, 2, 0, 0, 0, 0, 0, 1, 0, 0, 0)
 
 
 def page(editor, w, h, tone, room):
@@ -141,6 +145,83 @@ def soft(editor):
     return editor.step_to(with_worked_cells(document, cells))
 
 
+def shift(editor, x, y):
+    document = editor.document
+    if not document.layers:
+        return [NO_SUCH_LAYER]
+    was = worked_layer(document).cells
+    cells = shifted(was, document.chosen, document.width, document.height, x, y)
+    return editor.step_to(with_worked_cells(document, cells))
+
+
+def take_chosen(editor):
+    document = editor.document
+    editor.cut_out = taken_out(worked_layer(document).cells, document.chosen, document.width)
+
+
+def cut(editor):
+    document = editor.document
+    if not document.layers:
+        return [NO_SUCH_LAYER]
+    # Taken out even if the cut is no step, as cells without anything are taken out too.
+    take_chosen(editor)
+    cells = filled(worked_layer(document).cells, document.chosen, 0, 0)
+    return editor.step_to(with_worked_cells(document, cells))
+
+
+def paste(editor, x, y):
+    document = editor.document
+    if not document.layers:
+        return [NO_SUCH_LAYER]
+    if editor.cut_out is None:
+        return [NOTHING_THERE]
+    was = worked_layer(document).cells
+    cells = pasted(was, document.width, document.height, editor.cut_out, x, y)
+    return editor.step_to(with_worked_cells(document, cells))
+
+
+def press(editor):
+    document = editor.document
+    if not document.layers:
+        return [NO_SUCH_LAYER]
+    ground = covered(document.ground, document.layers[0])
+    return editor.step_to(with_lowest_pressed(document, ground))
+
+
+def copy(editor):
+    if not editor.document.layers:
+        return [NO_SUCH_LAYER]
+    take_chosen(editor)
+    return editor.standing()
+
+
+def undo(editor):
+    if not editor.done:
+        return [NOTHING_THERE]
+    return editor.undo()
+
+
+def redo(editor):
+    if not editor.undone:
+        return [NOTHING_THERE]
+    return editor.redo()
+
+
+def dots(editor, i):
+    layers = editor.document.layers
+    if i >= len(layers):
+        return [NO_SUCH_LAYER]
+    return dot_numbers(layers[i])
+
+
+def list_of(editor):
+    layers = editor.document.layers
+    told = [len(layers)]
+    for one in layers:
+        told.extend(layer_numbers(one))
+    return told
+
+
 def layer_answer(editor, number, row):
     if number == 0:
         return page(editor, row[0], row[1], row[2], row[3])
@@ -169,10 +250,42 @@ def cell_answer(editor, number, row):
     return soft(editor)
 
 
+def piece_answer(editor, number, row):
+    if number == 12:
+        return shift(editor, row[0], row[1])
+    if number == 13:
+        return cut(editor)
+    if number == 14:
+        return paste(editor, row[0], row[1])
+    if number == 15:
+        return press(editor)
+    if number == 16:
+        return copy(editor)
+    if number == 17:
+        return undo(editor)
+    return redo(editor)
+
+
+def asked_answer(editor, number, row):
+    if number == 19:
+        return picture_tones(editor.document)
+    if number == 20:
+        return dots(editor, row[0])
+    if number == 21:
+        return editor.document.chosen
+    if number == 22:
+        return editor.step_sizes()
+    return list_of(editor)
+
+
 def call_answer(editor, number, row):
     if number <= 5:
         return layer_answer(editor, number, row)
-    return cell_answer(editor, number, row)
+    if number <= 11:
+        return cell_answer(editor, number, row)
+    if number <= 18:
+        return piece_answer(editor, number, row)
+    return asked_answer(editor, number, row)
 
 
 def answers(calls):

@@ -49,6 +49,11 @@ def with_new_layer(document):
                     document.chosen, number)
 
 
+def with_lowest_pressed(document, ground):
+    return Document(document.width, document.height, ground, document.layers[1:],
+                    max(document.worked - 1, 0), document.chosen, document.given)
+
+
 def with_chosen(document, chosen):
     return Document(document.width, document.height, document.ground, document.layers,
                     document.worked, chosen, document.given)
@@ -66,6 +71,19 @@ def with_worked_layer(document, changed):
 def with_worked_cells(document, cells):
     was = worked_layer(document)
     return with_worked_layer(document, Layer(was.number, was.way, was.much, was.shown, cells))
+
+
+def dot_numbers(layer):
+    told = []
+    for cell in layer.cells:
+        told.append(cell[0])
+        told.append(cell[1])
+    return told
+
+
+def layer_numbers(layer):
+    having = len([cell for cell in layer.cells if cell[1] > 0])
+    return [layer.number, layer.way, layer.much, layer.shown, having]
 
 
 def same_layer(one, other):

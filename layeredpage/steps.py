@@ -1,4 +1,4 @@
-"""The steps: what each counts, and which are kept."""
+"""The steps: what each counts, which are kept, and how they are undone and done again."""
 
 from layeredpage.pages import new_document, same_document
 
@@ -33,7 +33,8 @@ def step_size(before, after):
 
 class Editor:
     # done holds for each step that can be undone, the oldest first, what it counts and the
-    # document ahead of it; undone, for each that can be done again, the same with the one behind it.
+    # document ahead of it; undone, for each that can be done again, the next last, the same with the
+    # one behind it. cut_out is None until something is taken out, as taking no cells counts as well.
     def __init__(self):
         self.begin(new_document(1, 1, 0), 100)
 
@@ -42,6 +43,7 @@ class Editor:
         self.room = room
         self.done = []
         self.undone = []
+        self.cut_out = None
 
     def standing(self):
         now = self.document
@@ -59,3 +61,21 @@ class Editor:
         # Not even the newest is kept if it alone counts more than the room.
         while sum([step[0] for step in self.done]) > self.room:
             self.done.pop(0)
+
+    # Neither way can bring the steps above the room: what is undone counts still.
+    def undo(self):
+        step = self.done.pop()
+        self.undone.append((step[0], self.document))
+        self.document = step[1]
+        return self.standing()
+
+    def redo(self):
+        step = self.undone.pop()
+        self.done.append((step[0], self.document))
+        self.document = step[1]
+        return self.standing()
+
+    def step_sizes(self):
+        done = [step[0] for step in reversed(self.done)]
+        undone = [step[0] for step in reversed(self.undone)]
+        return [len(done)] + done + [len(undone)] + undone

@@ -10,6 +10,15 @@ DROP = (2,)
 RAISE = (4,)
 TURN = (8,)
 SOFT = (11,)
+CUT = (13,)
+PRESS = (15,)
+COPY = (16,)
+UNDO = (17,)
+REDO = (18,)
+PICTURE = (19,)
+CHOSEN = (21,)
+STEPS = (22,)
+LIST = (23,)
 
 
 def page(w, h, tone=0, room=ROOMY):
@@ -40,6 +49,22 @@ def bright(up, k):
     return (10, up, k)
 
 
+def shift(x, y):
+    return (12, x, y)
+
+
+def paste(x, y):
+    return (14, x, y)
+
+
+def dots(i):
+    return (20, i)
+
+
+# All that can be asked of a document with three layers at the most.
+ALL_SEEN = (PICTURE, CHOSEN, LIST, dots(0), dots(1), dots(2))
+
+
 def written(calls):
     return [number for call in calls for number in call]
 
@@ -55,13 +80,45 @@ def split(numbers):
 
 
 def ask(*calls):
-    rows = split(answers(written(calls)))
+    numbers = written(calls)
+    assert len(calls) <= 40 and len(numbers) <= 240, "no such line is handed in"
+    rows = split(answers(numbers))
     assert len(rows) == len(calls), (rows, calls)
     return rows
 
 
 def last(*calls):
     return ask(*calls)[-1]
+
+
+def asked(calls, *questions):
+    """What is answered to the questions behind the calls."""
+    return ask(*calls, *questions)[len(calls):]
+
+
+def cells(calls, place=0):
+    """The tone of each cell of the layer at that place, and how much of it there is, behind the calls."""
+    numbers = last(*calls, dots(place))
+    return list(zip(numbers[::2], numbers[1::2]))
+
+
+def tones(calls, place=0):
+    return [tone for tone, much in cells(calls, place)]
+
+
+def numbered(w, h, room=ROOMY):
+    """A page with one layer, of which each cell has another tone: 1 and its column and ten times its row."""
+    calls = [page(w, h, 0, room), LAYER, fill(1, 200)]
+    for x in range(1, w):
+        calls += [box(x, 0, 1, h), bright(1, x)]
+    for y in range(1, h):
+        calls += [box(0, y, w, 1), bright(1, 10 * y)]
+    return [*calls, box(0, 0, w, h)]
+
+
+def drawn_over(ground, way, tone, much, of_it):
+    """A page of one cell, with one layer over it."""
+    return [page(1, 1, ground), LAYER, fill(tone, much), set_it(way, of_it, 1)]
 
 
 def kept(*calls):

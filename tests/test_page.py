@@ -3,8 +3,9 @@
 import unittest
 
 from layeredpage.steps import Editor
-from tests.lines import (DROP, GREATEST, LAYER, RAISE, SOFT, TURN, ask, box, bright, chosen_cells, fill,
-                         kept, last, like, page, pick, set_it)
+from tests.lines import (CHOSEN, COPY, CUT, DROP, GREATEST, LAYER, LIST, PICTURE, PRESS, RAISE, REDO, SOFT, STEPS,
+                         TURN, UNDO, ask, box, bright, chosen_cells, dots, fill, kept, last, like, page, paste, pick,
+                         set_it, shift)
 
 
 class TheBeginning(unittest.TestCase):
@@ -19,15 +20,22 @@ class TheBeginning(unittest.TestCase):
         self.assertEqual(ask(like(0, 1, 0)), [[-1]])
 
     def test_without_layers_what_needs_one_is_refused(self):
-        calls = (DROP, pick(0), RAISE, set_it(0, 0, 0), fill(0, 0), bright(0, 0), SOFT)
-        self.assertEqual(ask(*calls), [[-2]] * 7)
+        calls = (DROP, pick(0), RAISE, set_it(0, 0, 0), fill(0, 0), bright(0, 0), SOFT, shift(0, 0), CUT, paste(0, 0),
+                 PRESS, COPY, dots(0))
+        self.assertEqual(ask(*calls), [[-2]] * 13)
 
-    def test_the_room_and_the_ground(self):
-        # One cell's steps in 40 calls never count 100 together, and its tone is not answered yet:
-        # so both are looked up.
+    def test_asked_before_any_page(self):
+        self.assertEqual(ask(PICTURE, CHOSEN, STEPS, LIST), [[0], [1], [0, 0], [0]])
+
+    def test_nothing_to_undo_and_nothing_cut_out(self):
+        self.assertEqual(ask(UNDO, REDO, LAYER, paste(0, 0)), [[-4], [-4], [1, 0, 1, 1, 0], [-4]])
+
+    def test_the_room(self):
+        # One cell's steps in 40 calls never count 100 together, so it is looked up.
         self.assertEqual(Editor().room, 100)
-        self.assertEqual(Editor().document.ground, [0])
         self.assertEqual(kept(*[TURN] * 40), 40)
+        self.assertEqual(last(*[LAYER, fill(9, 255), PRESS, LAYER, fill(0, 255), PRESS] * 6, STEPS),
+                         [36, *[3, 2, 2] * 12, 0])
 
 
 class ThePage(unittest.TestCase):
@@ -35,6 +43,10 @@ class ThePage(unittest.TestCase):
         self.assertEqual(ask(page(3, 2, 7, 50)), [[0, 0, 6, 0, 0]])
         self.assertEqual(ask(page(1, 1, 0, 0)), [[0, 0, 1, 0, 0]])
         self.assertEqual(ask(page(6, 6, 255, 1000)), [[0, 0, 36, 0, 0]])
+
+    def test_has_that_ground_no_layers_all_chosen_and_no_steps(self):
+        self.assertEqual(ask(page(3, 2, 7, 50), PICTURE, CHOSEN, STEPS, LIST)[1:], [[7] * 6, [1] * 6, [0, 0], [0]])
+        self.assertEqual(ask(page(1, 2, 255, 0), PICTURE, CHOSEN, STEPS, LIST)[1:], [[255] * 2, [1] * 2, [0, 0], [0]])
 
     def test_columns_and_rows_are_not_mistaken(self):
         self.assertEqual(last(page(5, 2), like(4, 1, 0)), [0, 0, 10, 0, 0])
@@ -65,6 +77,15 @@ class ThePage(unittest.TestCase):
     def test_is_new_altogether(self):
         rows = ask(page(2, 2), LAYER, LAYER, box(0, 0, 1, 1), page(3, 1), TURN, LAYER)
         self.assertEqual(rows[3:], [[2, 1, 1, 3, 0], [0, 0, 3, 0, 0], [0, 0, 0, 1, 0], [1, 0, 0, 2, 0]])
+
+    def test_what_was_undone_is_gone_too(self):
+        rows = ask(page(2, 2), TURN, TURN, UNDO, page(2, 2), UNDO, REDO, STEPS)
+        self.assertEqual(rows[3:], [[0, 0, 0, 1, 1], [0, 0, 4, 0, 0], [-4], [-4], [0, 0]])
+
+    def test_refused_keeps_steps_and_what_is_cut_out(self):
+        rows = ask(LAYER, fill(5, 6), COPY, fill(1, 1), UNDO, fill(0, 0), UNDO, page(7, 1), STEPS, REDO, paste(0, 0),
+                   dots(0))
+        self.assertEqual(rows[6:], [[1, 0, 1, 2, 1], [-1], [2, 2, 2, 1, 2], [1, 0, 1, 3, 0], [1, 0, 1, 4, 0], [5, 6]])
 
     def test_has_its_own_room(self):
         # On four cells a turn counts 5.

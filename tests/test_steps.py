@@ -2,9 +2,10 @@
 
 import unittest
 
-from layeredpage.pages import Document, Layer, new_document, same_document, with_chosen
-from layeredpage.steps import Editor, step_size
-from tests.lines import (DROP, LAYER, RAISE, SOFT, TURN, ask, box, bright, fill, kept, like, page, pick, set_it)
+from layeredpage.pages import Document, Layer, new_document, same_document
+from layeredpage.steps import step_size
+from tests.lines import (COPY, CUT, DROP, LAYER, PRESS, RAISE, SOFT, STEPS, TURN, ask, box, bright, fill, kept, last,
+                         like, page, paste, pick, set_it, shift)
 
 
 class WhatAStepCounts(unittest.TestCase):
@@ -56,6 +57,32 @@ class WhatAStepCounts(unittest.TestCase):
         # The left column of two has it; in the third column nothing is around.
         self.counts(4, 1, 3, LAYER, box(0, 0, 2, 1), fill(50, 90), box(0, 0, 4, 1), SOFT)
 
+    def test_shift_counts_the_cells_that_have_something_else_then(self):
+        one = (LAYER, box(0, 0, 1, 1), fill(9, 9), box(0, 0, 6, 6))
+        self.counts(3, 2, 3, *one, shift(1, 0))
+        self.counts(3, 2, 2, *one, box(0, 0, 1, 2), shift(1, 0))
+        self.counts(3, 2, 5, LAYER, box(0, 0, 1, 2), fill(9, 9), box(0, 0, 6, 6), shift(2, 1))
+
+    def test_cut_and_paste_count_the_cells_that_differ(self):
+        two = (LAYER, box(0, 0, 2, 1), fill(9, 9), box(0, 0, 6, 6))
+        self.counts(3, 2, 3, *two, CUT)
+        self.counts(3, 2, 2, *two, box(1, 0, 2, 2), CUT)
+        # The two come to columns 1 and 2, over one that has the same; the rest of the page comes beside it.
+        self.counts(3, 2, 2, *two, COPY, paste(1, 0))
+        self.counts(3, 2, 3, *two, COPY, paste(0, 1))
+
+    def test_press_counts_the_layer_and_where_the_ground_differs(self):
+        self.counts(3, 2, 7, LAYER, PRESS)
+        self.counts(3, 2, 9, LAYER, box(0, 0, 2, 1), fill(9, 255), PRESS)
+        self.counts(3, 2, 13, LAYER, fill(9, 255), PRESS)
+        self.counts(3, 2, 7, LAYER, fill(9, 255), set_it(0, 255, 0), PRESS)
+        self.counts(3, 2, 9, LAYER, box(0, 0, 2, 1), fill(9, 255), LAYER, fill(8, 8), PRESS)
+
+    def test_each_told_the_last_first(self):
+        # Pressed, both cells come from 50 to 48: 2, the layer's 6, and 1.
+        calls = (page(3, 2, 50), LAYER, box(0, 0, 2, 1), fill(9, 255), CUT, set_it(1, 9, 1), paste(0, 0), PRESS, TURN)
+        self.assertEqual(last(*calls, STEPS), [8, 7, 9, 3, 1, 3, 3, 5, 7, 0])
+
     def test_the_layer_is_found_by_its_number(self):
         # The filled layer was raised above the other: its own cells are what counts.
         self.counts(3, 2, 2, LAYER, fill(9, 9), LAYER, pick(0), RAISE, box(0, 0, 1, 1), fill(7, 7))
@@ -64,7 +91,8 @@ class WhatAStepCounts(unittest.TestCase):
 class WhatIsNoStep(unittest.TestCase):
     def test_a_command_that_leaves_the_document_as_it_was(self):
         same = ((pick(0),), (set_it(0, 255, 1),), (box(0, 0, 6, 6),), (box(0, 0, 0, 0, 1),), (box(0, 0, 0, 0, 2),),
-                (box(0, 0, 6, 6, 3),), (like(0, 0, 0),), (fill(0, 0),), (bright(0, 9),), (bright(1, 0),), (SOFT,))
+                (box(0, 0, 6, 6, 3),), (like(0, 0, 0),), (fill(0, 0),), (bright(0, 9),), (bright(1, 0),), (SOFT,),
+                (shift(1, 1),), (CUT,), (COPY,), (COPY, paste(0, 0)), (COPY, paste(1, 1)))
         for calls in same:
             self.assertEqual(ask(page(2, 2), LAYER, *calls)[-1], [1, 0, 4, 1, 0], calls)
 
@@ -135,32 +163,6 @@ class WhichAreKept(unittest.TestCase):
         # A layer of 36 cells counts 37, as dropping it does: 27 of them are 999.
         calls = [page(6, 6, 0, 1000)] + [LAYER, DROP] * 14
         self.assertEqual(self.undoable(*calls)[-3:], [26, 27, 27])
-
-
-class WhatAStepKeeps(unittest.TestCase):
-    """Undoing comes later; what it will need is looked up here."""
-
-    def test_the_document_from_ahead_and_what_it_counts(self):
-        editor = Editor()
-        first = new_document(2, 1, 7)
-        second = with_chosen(first, [0, 1])
-        editor.begin(first, 100)
-        self.assertEqual(editor.step_to(second), [0, 0, 1, 1, 0])
-        self.assertEqual(editor.done, [(2, first)])
-        self.assertEqual(first.chosen, [1, 1])
-
-    def test_what_was_undone_can_not_be_done_again_behind_a_step(self):
-        editor = Editor()
-        now = editor.document
-        editor.undone = [(2, now)]
-        self.assertEqual(editor.step_to(with_chosen(now, [1])), [0, 0, 1, 0, 1])
-        self.assertEqual(editor.step_to(with_chosen(now, [0])), [0, 0, 0, 1, 0])
-
-    def test_a_new_page_has_none(self):
-        editor = Editor()
-        editor.step_to(with_chosen(editor.document, [0]))
-        editor.begin(new_document(1, 1, 0), 5)
-        self.assertEqual((editor.done, editor.undone, editor.room), ([], [], 5))
 
 
 if __name__ == "__main__":
